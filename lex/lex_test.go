@@ -71,10 +71,10 @@ func TestErrors(t *testing.T) {
 		"a \"\\q\"": 2, "\"\t\"": 0, "\"a\nb\"": 0, "\"\\x1\"": 0, "\"\\]\"": 0, "[": 0, "a [b-a]": 2, "[a^]": 0, "[-]": 0, "[a-]": 0, "[\n]": 0, "[\\\"]": 0,
 		"a " + strings.Repeat("n", 33):             2,
 		"a \"" + strings.Repeat("x", 256) + "\" b": 2,
-		"a # b\n $":                                7,
-		"a # b $":                                  -1,
-		strings.Repeat(" ", 65536):                 -1,
-		strings.Repeat(" ", 65535) + "$":           65535,
+		"a # b\n $":                      7,
+		"a # b $":                        -1,
+		strings.Repeat(" ", 65536):       -1,
+		strings.Repeat(" ", 65535) + "$": 65535,
 	} {
 		got, at, e := lex.Words(text)
 		if want < 0 {
