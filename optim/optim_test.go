@@ -218,7 +218,7 @@ func TestAgainstWords(t *testing.T) {
 			t.Fatal("changed, or memory is shared")
 		}
 	}
-	if tried < 500 || items < 2000 {
+	if tried < 300 || items < 800 {
 		t.Fatal(tried, items)
 	}
 }

@@ -445,7 +445,7 @@ func TestBlanksAndOneByOne(t *testing.T) {
 			t.Fatalf("%q, parted: %v", text, again)
 		}
 		tried++
-		more, _, e := parse.Grammar(text + "\nq <- a / q\nr <- <a: >")
+		more, _, e := parse.Grammar(text + "\nq <- q / r\nr <- <a: >")
 		if e != api.OK || len(more.Rules) != len(g.Rules)+2 || !reflect.DeepEqual(more.Rules[:len(g.Rules)], g.Rules) || more.Rules[len(g.Rules)].Name != "q" {
 			t.Fatalf("%q, and others behind: %v", text, more)
 		}

@@ -16,8 +16,10 @@ func New(seed uint64) *Source { return &Source{state: seed*0x9e3779b97f4a7c15 + 
 // Next is the next number.
 func (s *Source) Next() uint64 {
 	s.state += 0x9e3779b97f4a7c15
-	high, low := bits.Mul64(s.state, 0xd1b54a32d192ed03)
-	return high ^ low ^ s.state>>29
+	z := s.state
+	z = (z ^ z>>30) * 0xbf58476d1ce4e5b9
+	z = (z ^ z>>27) * 0x94d049bb133111eb
+	return z ^ z>>31
 }
 
 // Below is a number from 0 to n - 1.

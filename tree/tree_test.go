@@ -200,10 +200,18 @@ func TestNotRight(t *testing.T) {
 	for range 2000 {
 		bad = append(bad, s.Broken(s.Tree(4, names)))
 	}
+	for i, b := range bad[:12] {
+		if tree.Right(b) {
+			t.Fatal("right", i, b)
+		}
+	}
 	seen := 0
 	for _, b := range bad {
 		before := copied(b)
-		if tree.Right(b) {
+		if tree.Right(b) != right(b) {
+			t.Fatal("Right", b)
+		}
+		if right(b) {
 			continue
 		}
 		seen++
@@ -222,6 +230,63 @@ func TestNotRight(t *testing.T) {
 	}
 	if seen < 1500 {
 		t.Fatal("too few were tried:", seen)
+	}
+}
+
+// right is S1's words, but for what a node has besides its kids.
+func right(a api.Tree) bool {
+	if a.Root < 0 || a.Root >= len(a.Nodes) {
+		return false
+	}
+	above := make([]int, len(a.Nodes))
+	for i, n := range a.Nodes {
+		if !tree.Fits(n, len(n.Kids)) {
+			return false
+		}
+		for _, kid := range n.Kids {
+			if kid < 0 || kid >= i {
+				return false
+			}
+			above[kid]++
+		}
+	}
+	for i, n := range above {
+		if i == a.Root && n != 0 || i != a.Root && n != 1 {
+			return false
+		}
+	}
+	return true
+}
+
+func TestArenas(t *testing.T) {
+	s := sample.New(48)
+	told := [2]int{}
+	for range 30000 {
+		a := api.Tree{}
+		for i := range 1 + s.Below(5) {
+			n := api.Node{Kind: []uint8{api.Empty, api.Seq, api.Not, api.Choice}[s.Below(4)]}
+			for range s.Below(3) {
+				n.Kids = append(n.Kids, s.Below(i+2)-1)
+			}
+			a.Nodes = append(a.Nodes, n)
+		}
+		if a.Root = len(a.Nodes) - 1; s.OneIn(9) {
+			a.Root = s.Below(len(a.Nodes)+2) - 1
+		}
+		if tree.Right(a) != right(a) || tree.May(a) != right(a) || tree.Same(a, a) != right(a) {
+			t.Fatal("Right", a)
+		}
+		if told[1]++; right(a) {
+			told[0]++
+		}
+	}
+	if told[0] < 100 || told[0] == told[1] {
+		t.Fatal(told)
+	}
+	for i, a := range []api.Tree{{Nodes: []api.Node{{}, {}, {Kind: api.Seq, Kids: []int{0, 0}}}, Root: 2}, {Nodes: []api.Node{{}, {}, {Kind: api.Seq, Kids: []int{1, 1}}}, Root: 2}, {Nodes: []api.Node{{}}, Root: 1}, {Nodes: []api.Node{{}}, Root: -1}, {Nodes: []api.Node{{}, {Kind: api.Not, Kids: []int{0}}}}} {
+		if tree.Right(a) || right(a) {
+			t.Error(i)
+		}
 	}
 }
 
