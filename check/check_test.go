@@ -63,6 +63,8 @@ func TestTable(t *testing.T) {
 		{"a <- &<n: .>", api.Step{Pass: 4, Way: 7}, "a <- &."}, {"a <- !<n: .>", api.Step{Pass: 4, Way: 7}, "a <- !."}, {"a <- &\"x\" \"x\"", api.Step{Pass: 4, Way: 8}, "a <- \"x\""}, {"a <- ![x] \"y\"", api.Step{Pass: 4, Way: 9}, "a <- \"y\""}, {"a <- ![x] \"x\"", api.Step{Pass: 4, Way: 9}, ""}, {"a <- ![x] \"y\"?", api.Step{Pass: 4, Way: 9}, ""}, {"a <- &[xy] \"y\"", api.Step{Pass: 4, Way: 10}, "a <- \"y\""}, {"a <- &[xy] .", api.Step{Pass: 4, Way: 10}, ""}, {"a <- &\"x\" \"x\"", api.Step{Pass: 4, Way: 10}, ""}, {"a <- &\"x\" \"x\"", api.Step{Pass: 4, Way: 11}, ""},
 		{"a <- \"x\" / [y]", api.Step{Pass: 5, Way: 1}, "a <- [xy]"}, {"a <- ![x] [xy]", api.Step{Pass: 5, Way: 2}, "a <- [y]"}, {"a <- &[x] [xy]", api.Step{Pass: 5, Way: 3}, "a <- [x]"}, {"a <- ![x] \"x\"", api.Step{Pass: 5, Way: 2}, ""}, {"a <- \"x\" / \"yz\"", api.Step{Pass: 5, Way: 1}, ""}, {"a <- \"x\" \"y\"", api.Step{Pass: 5, Way: 1}, ""},
 		{"a <- .{1}", api.Step{Pass: 6, Way: 1}, "a <- ."}, {"a <- .{0}", api.Step{Pass: 6, Way: 2}, "a <- \"\""}, {"a <- . .*", api.Step{Pass: 6, Way: 3}, "a <- .+"}, {"a <- .* .", api.Step{Pass: 6, Way: 3}, ""}, {"a <- .{99} .", api.Step{Pass: 6, Way: 3}, ""}, {"a <- (.+)*", api.Step{Pass: 6, Way: 4}, "a <- .*"}, {"a <- (.{1,2})?", api.Step{Pass: 6, Way: 5}, "a <- .{0,2}"}, {"a <- \"x\" \"y\"", api.Step{Pass: 6, Way: 6}, "a <- \"xy\""}, {"a <- . .", api.Step{Pass: 6, Way: 6}, ""}, {"a <- .{1}", api.Step{Pass: 6, Way: 1, At: 1}, ""}, {"a <- .{1}", api.Step{Pass: 6, Way: 7}, ""},
+		{"a <- (.+){2,}", api.Step{Pass: 6, Way: 4}, ""}, {"a <- (.+){0}", api.Step{Pass: 6, Way: 4}, ""}, {"a <- (.{2,})?", api.Step{Pass: 6, Way: 4}, ""}, {"a <- (.{1,2})?", api.Step{Pass: 6, Way: 4}, ""}, {"a <- (.*)?", api.Step{Pass: 6, Way: 4}, ""}, {"a <- (.+){1,3}", api.Step{Pass: 6, Way: 4}, "a <- .+"}, {"a <- (.{2,3})?", api.Step{Pass: 6, Way: 5}, ""}, {"a <- (.{1,3}){0,2}", api.Step{Pass: 6, Way: 5}, ""}, {"a <- (.?){1}", api.Step{Pass: 6, Way: 5}, ""}, {"a <- (.*)?", api.Step{Pass: 6, Way: 5}, "a <- .*"}, {"a <- .{2}", api.Step{Pass: 6, Way: 1}, ""}, {"a <- .?", api.Step{Pass: 6, Way: 1}, ""}, {"a <- .+", api.Step{Pass: 6, Way: 1}, ""}, {"a <- .*", api.Step{Pass: 6, Way: 2}, ""},
+		{"a <- &\"x\" \"y\"", api.Step{Pass: 4, Way: 8}, ""}, {"a <- !\"x\" \"x\"", api.Step{Pass: 4, Way: 8}, ""}, {"a <- !\"x\" \"y\"", api.Step{Pass: 4, Way: 9}, ""}, {"a <- &[xy] [xyz]", api.Step{Pass: 4, Way: 10}, ""}, {"a <- &[xy] \"y\"*", api.Step{Pass: 4, Way: 10}, ""}, {"a <- &[xy] \"y\"", api.Step{Pass: 4, Way: 9}, ""}, {"a <- &.", api.Step{Pass: 4, Way: 5}, ""}, {"a <- !.", api.Step{Pass: 4, Way: 5}, ""}, {"a <- &.", api.Step{Pass: 4, Way: 6}, ""}, {"a <- !.", api.Step{Pass: 4, Way: 6}, ""}, {"a <- &.", api.Step{Pass: 4, Way: 7}, ""}, {"a <- <n: &.>", api.Step{Pass: 4, Way: 7}, ""},
 		{"a <- . b <- .", api.Step{Pass: 7, Way: 1, Rule: 1}, "a <- ."}, {"a <- . b <- .", api.Step{Pass: 7, Way: 1}, ""}, {"a <- . b <- .", api.Step{Pass: 7, Way: 1, Rule: 1, Path: []int{0}}, ""}, {"a <- . b <- .", api.Step{Pass: 7, Way: 1, Rule: 1, At: 1}, ""}, {"a <- . b <- .", api.Step{Pass: 7, Way: 2, Rule: 1}, ""}, {"a <- b b <- .", api.Step{Pass: 7, Way: 1, Rule: 1}, ""}, {"a <- c b <- . c <- . d <- b", api.Step{Pass: 7, Way: 1, Rule: 1}, "a <- c c <- ."},
 		{"a <- . .", api.Step{}, ""}, {"a <- . .", api.Step{Pass: 8, Way: 1}, ""}, {"a <- . .", api.Step{Pass: 255, Way: 255, Rule: -1, Path: []int{-1}, At: -1}, ""}, {"a <- . .", api.Step{Pass: 6, Way: 3, Rule: 1}, ""}, {"a <- . .", api.Step{Pass: 6, Way: 3, Path: []int{2}}, ""}, {"a <- . .", api.Step{Pass: 6, Way: 3, Rule: 1 << 40}, ""},
 	} {
@@ -114,6 +116,48 @@ func TestAgainstTheTable(t *testing.T) {
 	for pass := api.Inline; pass <= api.Prune; pass++ {
 		if told[pass] < 50 {
 			t.Error("too few steps of", pass, told[pass])
+		}
+	}
+}
+
+func TestNear(t *testing.T) {
+	s := sample.New(284)
+	tried := 0
+	for range 400 {
+		g := s.Grammar(1+s.Below(2), 1+s.Below(3))
+		if well.Check(g) != api.OK || gram.Nodes(g) > 25 {
+			continue
+		}
+		tried++
+		for pass := api.Inline; pass <= api.Prune; pass++ {
+			for _, one := range redex.Near(g, pass) {
+				want, is := redex.Do(g, one)
+				out, e := check.Step(g, one)
+				if is != (e == api.OK) || is && !gram.Same(out, want) || !is && (e != api.ErrStep || len(out.Rules) != 0) {
+					t.Fatal(print.Grammar(g), one, print.Grammar(out), e)
+				}
+			}
+		}
+	}
+	if tried < 100 {
+		t.Fatal(tried)
+	}
+}
+
+func TestTooLarge(t *testing.T) {
+	for _, row := range []struct {
+		begin, grown string
+		s            api.Step
+	}{
+		{". .", ".{2}", api.Step{Pass: 6, Way: 3}}, {"![ -~] .", "[\\x00-\\x1f\\x7f-\\xff]", api.Step{Pass: 5, Way: 2}}, {"(\"ab\" / \"ac\")", "\"a\" (\"b\" / \"c\")", api.Step{Pass: 3, Way: 3, Path: []int{0}}},
+	} {
+		more := len(row.grown) - len(row.begin)
+		out, e := check.Step(read(t, redex.Filled(row.begin, api.MaxBytes-more)), row.s)
+		if e != api.OK || !gram.Same(out, read(t, redex.Filled(row.grown, api.MaxBytes))) {
+			t.Error(row, e)
+		}
+		if out, e := check.Step(read(t, redex.Filled(row.begin, api.MaxBytes-more+1)), row.s); e != api.ErrStep || len(out.Rules) != 0 {
+			t.Error(row, e)
 		}
 	}
 }

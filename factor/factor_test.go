@@ -166,3 +166,17 @@ func TestInCommon(t *testing.T) {
 		t.Fatal(told)
 	}
 }
+
+func TestTooLarge(t *testing.T) {
+	begin, grown := "(\"ab\" / \"ac\")", "\"a\" (\"b\" / \"c\")"
+	more := len(grown) - len(begin)
+	s := api.Step{Way: 3, Path: []int{0}}
+	becomes(t, redex.Filled(begin, api.MaxBytes-more), s, redex.Filled(grown, api.MaxBytes))
+	becomes(t, redex.Filled(begin, api.MaxBytes-more+1), s, "")
+	if got := factor.Steps(read(t, redex.Filled(begin, api.MaxBytes))); len(got) != 0 {
+		t.Error(got)
+	}
+	if got, ok := factor.First(read(t, redex.Filled(begin, api.MaxBytes))); ok {
+		t.Error(got)
+	}
+}

@@ -162,7 +162,15 @@ func TestEnough(t *testing.T) {
 	if f, e := fuel.Enough(big, ""); f != api.MaxFuel || e != api.OK {
 		t.Error(f, e)
 	}
-	if c, e := fuel.Closer(api.Grammar{}, -1, 0); c != 0 || e != api.ErrForm {
-		t.Error(c, e)
+	x := tree.Text("x")
+	for _, bad := range []api.Grammar{{}, {Rules: []api.Def{{Name: "a", Body: x}, {Name: "a", Body: x}}}, {Rules: []api.Def{{Name: "a", Body: tree.Rule("b")}}}, {Rules: []api.Def{{Name: "a", Body: sample.Deep(33, api.Node{Kind: api.Not})}}}, {Rules: []api.Def{{Name: "1", Body: x}}}} {
+		w, e1 := fuel.Weight(bad)
+		c, e2 := fuel.Closer(bad, 1, 1)
+		d, e3 := fuel.Closer(bad, -1, 0)
+		f, e4 := fuel.Enough(bad, "x")
+		e := gram.May(bad)
+		if w+c+d+f != 0 || e == api.OK || e1 != e || e2 != e || e3 != e || e4 != e {
+			t.Error(w, c, d, f, e1, e2, e3, e4)
+		}
 	}
 }

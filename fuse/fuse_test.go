@@ -141,3 +141,24 @@ func done(t *testing.T, g api.Grammar) {
 		}
 	}
 }
+
+func TestTooLarge(t *testing.T) {
+	begin, grown := ". .", ".{2}"
+	more := len(grown) - len(begin)
+	s := api.Step{Way: 3}
+	becomes(t, redex.Filled(begin, api.MaxBytes-more), s, redex.Filled(grown, api.MaxBytes))
+	becomes(t, redex.Filled(begin, api.MaxBytes-more+1), s, "")
+	if got := fuse.Steps(read(t, redex.Filled(begin, api.MaxBytes))); len(got) != 0 {
+		t.Error(got)
+	}
+	if got, ok := fuse.First(read(t, redex.Filled(begin, api.MaxBytes))); ok {
+		t.Error(got)
+	}
+}
+
+func TestTooDeep(t *testing.T) {
+	nots := strings.Repeat("!", 29)
+	becomes(t, "a <- "+nots+"(. . \"y\")", api.Step{Way: 3, Path: make([]int, 29)}, "a <- "+nots+"(.{2} \"y\")")
+	becomes(t, "a <- !"+nots+"(. . \"y\")", api.Step{Way: 3, Path: make([]int, 30)}, "")
+	becomes(t, "a <- !"+nots+"(. .)", api.Step{Way: 3, Path: make([]int, 30)}, "a <- !"+nots+".{2}")
+}

@@ -173,3 +173,17 @@ func TestMerged(t *testing.T) {
 		t.Fatal(told)
 	}
 }
+
+func TestTooLarge(t *testing.T) {
+	begin, grown := "![ -~] .", "[\\x00-\\x1f\\x7f-\\xff]"
+	more := len(grown) - len(begin)
+	s := api.Step{Way: 2}
+	becomes(t, redex.Filled(begin, api.MaxBytes-more), s, redex.Filled(grown, api.MaxBytes))
+	becomes(t, redex.Filled(begin, api.MaxBytes-more+1), s, "")
+	if got := merge.Steps(read(t, redex.Filled(begin, api.MaxBytes))); len(got) != 0 {
+		t.Error(got)
+	}
+	if got, ok := merge.First(read(t, redex.Filled(begin, api.MaxBytes))); ok {
+		t.Error(got)
+	}
+}

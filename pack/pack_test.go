@@ -241,6 +241,23 @@ func TestLong(t *testing.T) {
 	}
 }
 
+func TestBytes(t *testing.T) {
+	s := sample.New(162)
+	for range 40 {
+		bytes := s.Set()
+		g := api.Grammar{Rules: []api.Def{{Name: "a", Body: tree.Set(bytes)}}}
+		for b := range 256 {
+			o, used, e := pack.Match(g, string([]byte{byte(b), 'x'}), 1)
+			if is := bytes[b/64]>>(b%64)&1 == 1; e != api.OK || used != 1 || o.OK != is || is && o.To != 1 {
+				t.Fatal(b, o, e)
+			}
+		}
+		if o, _, e := pack.Match(g, "", 1); e != api.OK || o.OK {
+			t.Fatal("at the end")
+		}
+	}
+}
+
 func TestWrong(t *testing.T) {
 	g := read(t, "a <- \"x\" b <- b")
 	long := strings.Repeat("x", 4097)

@@ -142,6 +142,14 @@ func TestWrong(t *testing.T) {
 	}
 	g := api.Grammar{Rules: []api.Def{{Name: "a", Body: x}, {Name: "a", Body: api.Tree{}}}}
 	for _, b := range bad {
+		for _, p := range [][]int{{0}, {0, 0}, {1}} {
+			if got, ok := path.At(b, p); ok || !none(got) {
+				t.Fatal(b)
+			}
+			if got, ok := path.Put(b, p, x); ok || !none(got) {
+				t.Fatal(b)
+			}
+		}
 		one, ok1 := path.At(b, nil)
 		two, ok2 := path.Put(b, nil, x)
 		three, ok3 := path.Put(x, nil, b)

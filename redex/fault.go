@@ -2,13 +2,16 @@ package redex
 
 import (
 	"slices"
+	"strings"
 
 	"bonsai/api"
 	"bonsai/gram"
+	"bonsai/path"
 	"bonsai/print"
 	"bonsai/sample"
 	"bonsai/span"
 	"bonsai/table"
+	"bonsai/tree"
 	"bonsai/well"
 )
 
@@ -75,6 +78,14 @@ func (p Pass) doFault(g api.Grammar, steps []api.Step, s *sample.Source) string 
 			return "the meaning of " + print.Grammar(g) + " and " + print.Grammar(out)
 		}
 	}
+	if s.OneIn(10) {
+		for _, step := range Near(g, p.Number) {
+			out, e := p.Do(g, step)
+			if is := slices.ContainsFunc(steps, func(one api.Step) bool { return Same(one, step) }); is != (e == api.OK) || !is && (e != api.ErrStep || len(out.Rules) > 0) {
+				return "what is no step of " + print.Grammar(g)
+			}
+		}
+	}
 	for range 12 {
 		step := Other(g, p.Number, steps, s)
 		is := step.Pass == p.Number
@@ -87,6 +98,36 @@ func (p Pass) doFault(g api.Grammar, steps []api.Step, s *sample.Source) string 
 		}
 	}
 	return ""
+}
+
+// Near is all that a step of a pass may look like, at the places of a grammar that may be.
+func Near(g api.Grammar, pass uint8) []api.Step {
+	var out []api.Step
+	for _, p := range path.All(g) {
+		x, _ := path.Find(g, p)
+		for way := range Ways(pass) + 2 {
+			for at := -1; at <= max(1, len(tree.Kids(x))); at++ {
+				out = append(out, api.Step{Pass: pass, Way: way, Rule: p.Rule, Path: p.Path, At: at})
+			}
+		}
+	}
+	return out
+}
+
+// Filled is the text of a rule whose body begins by what is said, and has literals behind it, so that it has so many bytes.
+func Filled(begin string, size int) string {
+	text := "a <- " + begin
+	x, y := "x", "y"
+	for left := size - len(text) - 1; left > 0; left = size - len(text) - 1 {
+		n := min(left-3, api.MaxLiteral)
+		if left-3-n > 0 && left-3-n < 4 {
+			n -= 4
+		}
+		// No two that stand next to each other are the same.
+		text += " \"" + strings.Repeat(x, n) + "\""
+		x, y = y, x
+	}
+	return text + "\n"
 }
 
 // Other is a step that mostly is none.
