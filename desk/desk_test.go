@@ -256,3 +256,39 @@ func optimised(t *testing.T, s *sample.Source, text string, g api.Grammar) {
 		t.Fatal("Diff")
 	}
 }
+
+// TestTen is the document's ten examples.
+func TestTen(t *testing.T) {
+	if out, used, _, e := desk.Match("a <- \"x\" a / \"\"", "xx", 1000); out != "match 2\n" || used != 23 || e != api.OK {
+		t.Error(1, out, used, e)
+	}
+	for i, row := range []struct{ text, script, out, lines string }{
+		{"a <- b \"x\" b\nb <- \"y\"", "run inline:1", "a <- \"y\" \"x\" b\nb <- \"y\"\n", "mark, 1.1 0/0 @0"},
+		{"a <- b\nb <- \"x\"", "run inline:9 prune:9", "a <- \"x\"\n", "mark, 1.1 0 @0, mark, 7.1 1 @0"},
+		{"a <- \"x\" \"b\" / \"x\" \"c\"", "run factor:9", "a <- \"x\" (\"b\" / \"c\")\n", "mark, 3.2 0 @0"},
+		{"a <- [a] / \"b\" / \"c\"", "cost", "a <- [a-c]\n", "mark, 5.1 0 @0, 5.1 0 @0, mark"},
+		{"a <- !!\"x\" \"x\"", "run pred:9", "a <- \"x\"\n", "mark, 4.1 0/0 @0, 4.8 0 @0"},
+		{"a <- \"x\"* \"x\"{0,3}", "run fuse:9", "a <- \"x\"*\n", "mark, 6.3 0 @0"},
+	} {
+		out, items, _, at, e := desk.Optimise(row.text, row.script)
+		l, f := log.Decode(items)
+		var lines []string
+		for _, x := range l {
+			lines = append(lines, log.Show(x))
+		}
+		if out != row.out || at != 0 || e != api.OK || f != api.OK || strings.Join(lines, ", ") != row.lines || !desk.Check(row.text, out, items) {
+			t.Error(i+2, out, lines, at, e)
+		}
+	}
+	for text, want := range map[string]struct {
+		at int
+		e  api.Errno
+	}{"a <- a \"x\" / \"y\"": {16, api.ErrLeft}, "a <- (\"x\"?)*": {12, api.ErrLoop}, "a <- (\"x\"?){0,9}": {0, api.OK}, "a <- (b": {7, api.ErrForm}, "a <- b": {5, api.ErrName}, "a <- a a <- a": {7, api.ErrTwice}} {
+		if _, at, e := desk.Read(text); at != want.at || e != want.e {
+			t.Error(text, at, e)
+		}
+	}
+	if out, _, _, e := desk.Match("a <- <n: \"p\" a / \"\">", "pp", 1000); out != "match 2\nn 0 2\nn 1 2\nn 2 2\n" || e != api.OK {
+		t.Error(10, out, e)
+	}
+}

@@ -238,3 +238,9 @@ func TestNodeByNode(t *testing.T) {
 		t.Error(len(l))
 	}
 }
+
+func TestNumbers(t *testing.T) {
+	if diff.Keep != 0 || diff.Delete != 1 || diff.Insert != 2 {
+		t.Error(diff.Keep, diff.Delete, diff.Insert)
+	}
+}

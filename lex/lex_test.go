@@ -268,3 +268,11 @@ func TestQuote(t *testing.T) {
 		}
 	}
 }
+
+func TestNumbers(t *testing.T) {
+	for i, kind := range []uint8{lex.Name, lex.Arrow, lex.Slash, lex.And, lex.Not, lex.Question, lex.Star, lex.Plus, lex.Open, lex.Close, lex.Less, lex.Greater, lex.Colon, lex.Count, lex.Literal, lex.Class} {
+		if int(kind) != i+1 {
+			t.Error(i, kind)
+		}
+	}
+}

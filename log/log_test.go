@@ -257,3 +257,9 @@ func TestSame(t *testing.T) {
 		t.Error("of none")
 	}
 }
+
+func TestMaxNumber(t *testing.T) {
+	if log.MaxNumber != 2147483647 {
+		t.Error(log.MaxNumber)
+	}
+}

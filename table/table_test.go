@@ -297,3 +297,9 @@ func TestWrong(t *testing.T) {
 		}
 	}
 }
+
+func TestMaxCount(t *testing.T) {
+	if table.MaxCount != 1099511627776 {
+		t.Error(table.MaxCount)
+	}
+}
