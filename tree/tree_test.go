@@ -461,6 +461,11 @@ func TestSame(t *testing.T) {
 	if tree.Same(tree.Rule("a"), tree.Text("a")) || tree.Same(tree.Empty(), tree.Set(api.Bytes{})) || tree.Same(tree.Empty(), api.Tree{}) {
 		t.Fatal("unlike ones")
 	}
+	for i, bad := range []api.Tree{{Nodes: []api.Node{{}}, Root: 1}, {Nodes: []api.Node{{Text: "x"}}}, {Nodes: []api.Node{{Kids: []int{0}}}}} {
+		if tree.Same(tree.Empty(), bad) || tree.Same(bad, tree.Empty()) || tree.Same(bad, bad) {
+			t.Error("of one that is not right", i)
+		}
+	}
 	one := api.Tree{Nodes: []api.Node{{}, {}, {Kind: api.Seq, Kids: []int{0, 1}}, {}, {Kind: api.Seq, Kids: []int{2, 3}}}, Root: 4}
 	two := api.Tree{Nodes: []api.Node{{}, {}, {}, {Kind: api.Seq, Kids: []int{1, 2}}, {Kind: api.Seq, Kids: []int{0, 3}}}, Root: 4}
 	if tree.Same(one, two) {
