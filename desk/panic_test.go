@@ -122,7 +122,7 @@ func oddOutcome(s *sample.Source) api.Outcome {
 // TestNothingPanics hands to each call whatever there is: each ends, and none panics.
 func TestNothingPanics(t *testing.T) {
 	s := sample.New(331)
-	for range 1500 {
+	for range 3000 {
 		a, b, g, h := odd(s), odd(s), oddGrammar(s), oddGrammar(s)
 		n, m, text, more := number(s), number(s), oddText(s), oddText(s)
 		texts(s, text, more, n, m)

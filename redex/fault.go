@@ -109,6 +109,7 @@ func Near(g api.Grammar, pass uint8) []api.Step {
 			for at := -1; at <= max(1, len(tree.Kids(x))); at++ {
 				out = append(out, api.Step{Pass: pass, Way: way, Rule: p.Rule, Path: p.Path, At: at})
 			}
+			out = append(out, api.Step{Pass: pass, Way: way, Rule: p.Rule, Path: p.Path, At: 1<<63 - 1})
 		}
 	}
 	return out
@@ -147,13 +148,13 @@ func Other(g api.Grammar, pass uint8, steps []api.Step, s *sample.Source) api.St
 	case 1:
 		near.Way = uint8(s.Next())
 	case 2:
-		near.Rule = []int{-1, 64, 1 << 40, near.Rule + 1}[s.Below(4)]
+		near.Rule = []int{-1, 64, 1<<63 - 1, near.Rule + 1}[s.Below(4)]
 	case 3:
-		near.At = []int{-1, near.At + 1, 1 << 40, -1 << 63}[s.Below(4)]
+		near.At = []int{-1, near.At + 1, 1<<63 - 1, -1 << 63}[s.Below(4)]
 	case 4:
 		near.Path = append(near.Path, 0)
 	case 5:
-		near.Path = append(near.Path, s.Below(2), -1)
+		near.Path = append(near.Path, s.Below(2), []int{-1, 1<<63 - 1, -1 << 63}[s.Below(3)])
 	}
 	return near
 }

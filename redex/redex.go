@@ -101,7 +101,7 @@ func none() (api.Tree, bool) { return api.Tree{}, false }
 
 // has tells whether there stands a node of a kind, with so many kids from At on.
 func (w where) has(kind uint8, more int) bool {
-	return w.n.Kind == kind && w.at >= 0 && w.at+more <= len(w.kids)
+	return w.n.Kind == kind && w.at >= 0 && w.at <= len(w.kids)-more
 }
 
 // but is the node with other kids in the place of some from At on.
