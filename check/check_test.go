@@ -8,10 +8,12 @@ import (
 	"bonsai/check"
 	"bonsai/gram"
 	"bonsai/log"
+	"bonsai/optim"
 	"bonsai/parse"
 	"bonsai/print"
 	"bonsai/redex"
 	"bonsai/sample"
+	"bonsai/tree"
 	"bonsai/well"
 )
 
@@ -256,6 +258,69 @@ func TestNodeByNode(t *testing.T) {
 	h, e := check.Step(turned, api.Step{Pass: 7, Way: 1, Rule: 1})
 	if e != api.OK || h.Rules[0].Body.Nodes[0].Text != "y" {
 		t.Error(h, e)
+	}
+}
+
+// alike tells whether two grammars are the same, node by node.
+func alike(a, b api.Grammar) bool { return reflect.DeepEqual(gram.Copy(a), gram.Copy(b)) }
+
+// isClean tells whether a tree's nodes are just those of the same tree, clean.
+func isClean(t api.Tree) bool {
+	body := func(t api.Tree) api.Grammar { return api.Grammar{Rules: []api.Def{{Body: t}}} }
+	return alike(body(t), body(tree.Clean(t)))
+}
+
+// TestAsThePassesDo has grammars whose bodies are not clean: a step's own body becomes clean, the others stay as they are, and so it is by the passes.
+func TestAsThePassesDo(t *testing.T) {
+	s := sample.New(285)
+	whole, unclean := 0, 0
+	for range 1500 {
+		g := s.Grammar(1+s.Below(4), 1+s.Below(4))
+		for pass := api.Inline; pass <= api.Prune; pass++ {
+			for _, one := range optim.Steps(g, pass) {
+				want, _ := optim.Do(g, one)
+				out, e := check.Step(g, one)
+				if e != api.OK || !alike(out, want) {
+					t.Fatal(g, one, out, e)
+				}
+				h, at, e := check.Replay(g, []log.Item{mark(), step(one)})
+				if e != api.OK || at != 0 || !alike(h, want) {
+					t.Fatal(g, one, h, at, e)
+				}
+				if pass == api.Prune {
+					continue
+				}
+				for i, d := range g.Rules {
+					if i == one.Rule && !isClean(out.Rules[i].Body) || i != one.Rule && !reflect.DeepEqual(d, gram.Copy(out).Rules[i]) {
+						t.Fatal(g, one, out)
+					}
+				}
+				if pass == api.Inline && len(one.Path) == 0 {
+					if whole++; !isClean(g.Rules[gram.Find(g, g.Rules[one.Rule].Body.Nodes[0].Text)].Body) {
+						unclean++
+					}
+				}
+			}
+		}
+	}
+	if whole < 30 || unclean < 10 {
+		t.Fatal("too few bodies as a whole", whole, unclean)
+	}
+}
+
+// TestLogAsTheRun has the log of a run, and what the run tells, node by node.
+func TestLogAsTheRun(t *testing.T) {
+	s := sample.New(286)
+	for range 3000 {
+		g := s.Grammar(1+s.Below(4), 1+s.Below(4))
+		script, _, _ := optim.Parse("run inline:3 dead:3 factor:3 pred:3 merge:3 fuse:3 prune:1")
+		want, l, e := optim.Run(g, script)
+		if e != api.OK {
+			continue
+		}
+		if h, at, e := check.Replay(g, l); e != api.OK || at != 0 || !alike(h, want) || !check.Goes(g, want, l) {
+			t.Fatal(g, l, h, at, e)
+		}
 	}
 }
 

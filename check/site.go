@@ -23,7 +23,11 @@ func find(g api.Grammar, s api.Step) (*site, bool) {
 		return nil, false
 	}
 	t := g.Rules[s.Rule].Body
-	up := func(x api.Tree) api.Tree { return x }
+	// What becomes the whole body has no node above that it is put together with, and need not be clean: another rule's body stands in its arena as it likes.
+	up := func(x api.Tree) api.Tree {
+		x, _ = expr.Make(x)
+		return x
+	}
 	for _, i := range s.Path {
 		n, kids := tree.Root(t), tree.Kids(t)
 		if i < 0 || i >= len(kids) {
